@@ -107,13 +107,17 @@ func deepSys(y impl.Sys) impl.Sys {
 		in.Names, in.Vals, in.Links, in.Types = slices.Clone(in.Names), slices.Clone(in.Vals), slices.Clone(in.Links), slices.Clone(in.Types)
 	}
 	for i := range z.Units {
-		p := &z.Units[i].Prog
-		p.Nodes = slices.Clone(p.Nodes)
-		for k := range p.Nodes {
-			p.Nodes[k].Names, p.Nodes[k].Args = slices.Clone(p.Nodes[k].Names), slices.Clone(p.Nodes[k].Args)
-		}
+		z.Units[i].Prog = deepProg(z.Units[i].Prog)
 	}
 	return z
+}
+
+func deepProg(p impl.Prog) impl.Prog {
+	p.Nodes = slices.Clone(p.Nodes)
+	for k := range p.Nodes {
+		p.Nodes[k].Names, p.Nodes[k].Args = slices.Clone(p.Nodes[k].Names), slices.Clone(p.Nodes[k].Args)
+	}
+	return p
 }
 
 // changed asks whether someSys is right with one thing in it another.

@@ -621,8 +621,9 @@ func TestHowManyUnitsEvalTakes(t *testing.T) {
 	wantNoEval(t, "one behind the other", y, 0, meant(t, "7"))
 }
 
-func TestEvalOfProgramsThatAreNotRight(t *testing.T) {
-	for what, p := range map[string]impl.Prog{
+// wrongProgs are programs that are not right.
+func wrongProgs() map[string]impl.Prog {
+	return map[string]impl.Prog{
 		"no program":   {},
 		"another Root": {Nodes: program(variable("x")).Nodes, Root: 1},
 		"a Root below": {Nodes: program(variable("x")).Nodes, Root: -1},
@@ -635,7 +636,11 @@ func TestEvalOfProgramsThatAreNotRight(t *testing.T) {
 		"many values":  over(impl.Node{Kind: impl.NdCall}, 10),
 		"a great word": program(impl.Node{Kind: impl.NdNum, N: impl.MaxWord + 1}),
 		"a field more": program(impl.Node{Kind: impl.NdNum, N: 7, S: "x"}),
-	} {
+	}
+}
+
+func TestEvalOfProgramsThatAreNotRight(t *testing.T) {
+	for what, p := range wrongProgs() {
 		wantNoEval(t, what, sessionWith(0), 0, p)
 		wantNoEval(t, what, someSys(), 3, p)
 	}
