@@ -693,19 +693,16 @@ func (m maker) done(t *testing.T, w impl.World, codes map[int]int) impl.World {
 	libs := names("aa bb cc dd ee ff gg")
 	switch what := m.r.Intn(12); {
 	case what < 4:
-		var there []string
-		for _, e := range w.Libs {
-			there = append(there, e.Src.Name)
-		}
+		there := libsOf(w)
 		if m.r.Intn(20) == 0 {
 			there = libs
 		}
 		text := m.change(libs, there)
+		if m.r.Intn(3) == 0 {
+			text += " (convert pt " + m.converter(1+m.r.Intn(2)) + ")"
+		}
 		if m.r.Intn(20) == 0 {
 			text = m.spoilt(text)
-		}
-		if _, code := impl.ParseLib(text); code == impl.LbOk && strings.Contains(text, "convert") {
-			return w
 		}
 		return changeAsModelled(t, w, text, codes)
 	case what < 6 && len(w.Libs) > 0:
