@@ -509,6 +509,52 @@ func TestTasksWhoseMachinesAreNotRight(t *testing.T) {
 	wantWorld(t, "in another system", w, false)
 }
 
+// wrongWorlds are not right.
+func wrongWorlds(t *testing.T) []impl.World {
+	t.Helper()
+	wrong := []impl.World{{}, {Next: 1}, {Sys: impl.NewSys()}, manyLibs(t, impl.MaxLibs+1)}
+	for _, spoil := range spoilers() {
+		w := byHand(t)
+		spoil(&w.Sys)
+		wrong = append(wrong, w)
+	}
+	for _, m := range wrongMachines(t) {
+		w := byHand(t)
+		w.Tasks[2].Mac = m
+		wrong = append(wrong, w)
+	}
+	r := rand.New(rand.NewSource(150))
+	for range 300 {
+		s, w := worldByChance(r)
+		if s.spoilWorld(&w); !rightWorld(w) {
+			wrong = append(wrong, w)
+		}
+	}
+	for _, over := range []func(w *impl.World){
+		func(w *impl.World) { w.Sys = filled(w.Sys, impl.MaxHeap+1) },
+		func(w *impl.World) {
+			w.Sys.Units = slices.Concat(w.Sys.Units, slices.Repeat(w.Sys.Units[:1], impl.MaxUnits+1-len(w.Sys.Units)))
+		},
+		func(w *impl.World) {
+			w.Sys.Insts = slices.Concat(w.Sys.Insts, slices.Repeat(w.Sys.Insts[1:2], impl.MaxInsts+1-len(w.Sys.Insts)))
+		},
+		func(w *impl.World) {
+			w.Next = 99
+			for id := 12; len(w.Tasks) <= impl.MaxTasks; id++ {
+				w.Tasks = append(w.Tasks, impl.Task{Id: id, Mac: w.Tasks[0].Mac})
+			}
+		},
+	} {
+		w := byHand(t)
+		over(&w)
+		wrong = append(wrong, w)
+	}
+	if len(wrong) < 100 {
+		t.Error("hardly one is wrong", len(wrong))
+	}
+	return wrong
+}
+
 // rightWorld says it in the document's own words.
 func rightWorld(w impl.World) bool {
 	if !rightSys(w.Sys) || len(w.Libs) > 6 || len(w.Tasks) > 6 || w.Next < 1 || w.Next > 100000 {

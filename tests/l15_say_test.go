@@ -391,28 +391,7 @@ func TestSaidTextsThatAreNotRead(t *testing.T) {
 }
 
 func TestSaidToWorldsThatAreNotRight(t *testing.T) {
-	wrong := []impl.World{{}, {Next: 1}, {Sys: impl.NewSys()}, manyLibs(t, impl.MaxLibs+1)}
-	for _, spoil := range spoilers() {
-		w := byHand(t)
-		spoil(&w.Sys)
-		wrong = append(wrong, w)
-	}
-	for _, m := range wrongMachines(t) {
-		w := byHand(t)
-		w.Tasks[2].Mac = m
-		wrong = append(wrong, w)
-	}
-	r := rand.New(rand.NewSource(150))
-	for range 300 {
-		s, w := worldByChance(r)
-		if s.spoilWorld(&w); !rightWorld(w) {
-			wrong = append(wrong, w)
-		}
-	}
-	if len(wrong) < 100 {
-		t.Error("hardly one is wrong", len(wrong))
-	}
-	for _, w := range wrong {
+	for _, w := range wrongWorlds(t) {
 		for _, text := range []string{"", "1", "(define x 1)", "(import aa)", "(", "(if)", "(print 1) (print 2)"} {
 			if z, answers := impl.Say(w, text); len(answers) != 0 || !alike(z, w) {
 				t.Fatalf("Say(%s, %q) = %s, %q; want it as it is, and nothing", shown(w), text, shown(z), answers)
