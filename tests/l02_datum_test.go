@@ -233,6 +233,7 @@ func canEnd(s string, ends []string) bool {
 }
 
 func TestReadOfShowOfWhatIsRead(t *testing.T) {
+	t.Parallel()
 	all := ends()
 	eachText("a1.()'#t; \n", 5, func(s string) {
 		_, bad := impl.Read(s)

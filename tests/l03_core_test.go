@@ -449,6 +449,7 @@ func rightNode(n impl.Node, args int) bool {
 }
 
 func TestNodesOfAllShapes(t *testing.T) {
+	t.Parallel()
 	texts := []string{"", "x", "%t", "7", "if", "car", "cons", "make", "field", "is"}
 	lists := [][]string{nil, {"x"}, {"%t"}, {"if"}, {""}, {"x", "y"}, {"x", "x"}, namesUpTo(8), namesUpTo(9)}
 	numbers := []int{0, 1, -1, 2, 7, 8, impl.MaxWord, impl.MaxWord + 1, -impl.MaxWord, -impl.MaxWord - 1}

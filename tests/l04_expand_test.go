@@ -706,6 +706,7 @@ func eachForm(heads, parts []string, n int, f func(string)) {
 }
 
 func TestExpandOfAllSmallForms(t *testing.T) {
+	t.Parallel()
 	heads := append(append(slices.Clone(words), primitives()...), "f", "1", "#t", "()", "(f)", "'a")
 	parts := []string{"x", "3", "else", "()", "(x)", "(x 1)", "((x 1))", "((x 1) (y 2))", ". x", "(else x 1)", "'(x . y)"}
 	var codes [3]int
@@ -833,6 +834,7 @@ func (m maker) spoilt(s string) string {
 }
 
 func TestExpandOfFormsByChance(t *testing.T) {
+	t.Parallel()
 	m := maker{rand.New(rand.NewSource(4))}
 	var right, spoilt [3]int
 	for i := range 6000 {

@@ -516,6 +516,7 @@ func wantPromised(t *testing.T, p impl.Prog) {
 }
 
 func TestFreeSetsAndDepthByChance(t *testing.T) {
+	t.Parallel()
 	m := plantation{rand.New(rand.NewSource(5))}
 	free, none := 0, 0
 	for i := range 1500 {

@@ -654,6 +654,7 @@ func textsByCells(h []impl.Cell) func(v impl.Value) string {
 }
 
 func TestPairsThatShareACellManyTimes(t *testing.T) {
+	t.Parallel()
 	for what, share := range map[string]func(i int) impl.Cell{
 		"both":          func(i int) impl.Cell { return pairCell(pairVal(i-1), pairVal(i-1)) },
 		"first and two": func(i int) impl.Cell { return pairCell(pairVal(i-1), pairVal(max(i-2, 0))) },
@@ -712,6 +713,7 @@ func heapByChance(r *rand.Rand, n int) []impl.Cell {
 }
 
 func TestHeapsByChance(t *testing.T) {
+	t.Parallel()
 	r := rand.New(rand.NewSource(66))
 	full := 0
 	for i := range 300 {

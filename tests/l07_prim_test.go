@@ -536,6 +536,7 @@ func argsByChance(r *rand.Rand, h []impl.Cell, s string) []impl.Value {
 }
 
 func TestPrimByChance(t *testing.T) {
+	t.Parallel()
 	r := rand.New(rand.NewSource(77))
 	seen := map[string]int{}
 	for i := range 1500 {

@@ -292,6 +292,7 @@ func TestNamesOfInsts(t *testing.T) {
 }
 
 func TestNamesThatAreAlike(t *testing.T) {
+	t.Parallel()
 	for i := range 30 {
 		for k := range 30 {
 			changed(t, fmt.Sprint("Names ", i, " and ", k), i == k, func(y *impl.Sys) { ownNames(&y.Insts[2], 30); y.Insts[2].Names[i] = namesUpTo(30)[k] })
@@ -749,6 +750,7 @@ func wantAsSaid(t *testing.T, what string, y impl.Sys, counts map[string]int) {
 }
 
 func TestSystemsByChance(t *testing.T) {
+	t.Parallel()
 	r := rand.New(rand.NewSource(88))
 	counts := map[string]int{}
 	for range 400 {
@@ -804,6 +806,7 @@ func spoil(r *rand.Rand, y *impl.Sys) {
 }
 
 func TestSpoiltSystemsByChance(t *testing.T) {
+	t.Parallel()
 	r := rand.New(rand.NewSource(89))
 	counts := map[string]int{}
 	for range 1500 {

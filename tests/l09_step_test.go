@@ -1082,6 +1082,7 @@ func counting(how string, times int) string {
 // Where nothing is left to do behind a call it needs no Frame, so it may go on for ever: as the branch of an if, the
 // last one of a row, the body of a function. Elsewhere each call waits, until there are too many.
 func TestWhatWaitsAndWhatDoesNot(t *testing.T) {
+	t.Parallel()
 	for _, how := range []string{"@", "(begin 1 @)", "(begin 1 2 (begin 3 @))", "(if #t @ 2)", "(if #f 1 @)", "(cond (#f 1) (else 2 @))", "(when 1 2 @)"} {
 		_, m, _ := runText(t, sessionWith(0), counting(how, impl.MaxStack+3), 4000)
 		if m.End != impl.EnDone || m.Val != symVal("done") {
@@ -1101,6 +1102,7 @@ func TestWhatWaitsAndWhatDoesNot(t *testing.T) {
 
 // A loop that makes cells ends when there is no room for one more; what was made stays.
 func TestWhatFillsTheHeap(t *testing.T) {
+	t.Parallel()
 	for how, kind := range map[string]int{"(begin (cons k k) @)": impl.CePair, "(begin (lambda () k) @)": impl.CeFn, "(begin (make pt k k) @)": impl.CeRec} {
 		for room := range 12 {
 			y, m, _ := runText(t, sessionWith(impl.MaxHeap-1-room), counting(how, 9), 400) // the loop itself is a cell
@@ -1523,6 +1525,7 @@ func wantAsModelled(t *testing.T, y impl.Sys, m impl.Machine, most int, seen map
 
 // Promise 9, of machines of all sorts, each step held against the document's own words.
 func TestStepsByChance(t *testing.T) {
+	t.Parallel()
 	r := rand.New(rand.NewSource(99))
 	seen := map[string]int{}
 	for range 700 {
@@ -1550,6 +1553,7 @@ func TestStepsByChance(t *testing.T) {
 
 // Whole programs from their Start on, each step held against the model.
 func TestProgramsByChance(t *testing.T) {
+	t.Parallel()
 	r := rand.New(rand.NewSource(100))
 	seen := map[string]int{}
 	for range 150 {
@@ -1658,6 +1662,7 @@ func rightFrame(y impl.Sys, f impl.Frame) bool {
 }
 
 func TestSpoiltMachinesByChance(t *testing.T) {
+	t.Parallel()
 	r := rand.New(rand.NewSource(101))
 	counts := map[bool]int{}
 	for i := range 2500 {
@@ -1851,6 +1856,7 @@ func casesOfSteps(t *testing.T, ask func(y impl.Sys, m impl.Machine)) {
 }
 
 func TestStepLeavesItsArguments(t *testing.T) {
+	t.Parallel()
 	right := 0
 	casesOfSteps(t, func(y impl.Sys, m impl.Machine) {
 		sysBefore, macBefore := wholeOf(y), wholeOf(m)

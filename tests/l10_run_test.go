@@ -292,6 +292,7 @@ func TestHowManyStepsProgramsTake(t *testing.T) {
 
 // Fuel of just as many steps as there are is enough, one less is not, and none of it is taken beyond the end.
 func TestFuelAtItsEdges(t *testing.T) {
+	t.Parallel()
 	for text, tells := range allTexts() {
 		y, m := started(t, text)
 		need := howMany(t, y, m)
@@ -377,6 +378,7 @@ var endless = []string{
 }
 
 func TestNoMoreThanMaxSteps(t *testing.T) {
+	t.Parallel()
 	for _, text := range endless {
 		y, m := started(t, text)
 		for _, fuel := range []int{impl.MaxSteps - 1, impl.MaxSteps, impl.MaxSteps + 1, 2 * impl.MaxSteps, 1 << 32, 1<<32 + 1, math.MaxInt} {
@@ -420,6 +422,7 @@ func lasting(t *testing.T, steps int) string {
 }
 
 func TestProgramsThatEndAtMaxSteps(t *testing.T) {
+	t.Parallel()
 	for steps := impl.MaxSteps - 2; steps <= impl.MaxSteps+3; steps++ {
 		text := lasting(t, steps)
 		y, m := started(t, text)
@@ -451,6 +454,7 @@ func TestProgramsThatEndAtMaxSteps(t *testing.T) {
 
 // What is done ahead of the last step stays, where that is the one at which the fuel is spent.
 func TestWhatWasDoneStaysWhereStepsRunOut(t *testing.T) {
+	t.Parallel()
 	y, m := started(t, "(begin (set! loop (lambda (k) (set! x k) (if (< k 30) (print k) 0) (if (< k 200) (cons k k) 0) (loop (+ k 1)))) (loop 1))")
 	last := 0
 	for fuel := 0; fuel <= impl.MaxSteps+1; fuel += 97 {
@@ -811,6 +815,7 @@ func wantModelRun(t *testing.T, what string, y impl.Sys, m impl.Machine, fuel in
 
 // Promise 10, of machines of all sorts, held against the document's own words.
 func TestRunsByChance(t *testing.T) {
+	t.Parallel()
 	r := rand.New(rand.NewSource(110))
 	seen := map[string]int{}
 	for range 250 {
@@ -833,6 +838,7 @@ func TestRunsByChance(t *testing.T) {
 
 // Programs as they are written, one behind the other in one system, right ones and others.
 func TestEvalByChance(t *testing.T) {
+	t.Parallel()
 	r := rand.New(rand.NewSource(111))
 	counts := map[bool]int{}
 	for range 60 {
@@ -857,6 +863,7 @@ func TestEvalByChance(t *testing.T) {
 
 // Machines spoilt in one part: either not right, and nothing is told, or right, and they run.
 func TestRunsOfSpoiltMachinesByChance(t *testing.T) {
+	t.Parallel()
 	r := rand.New(rand.NewSource(112))
 	counts := map[bool]int{}
 	seen := map[string]int{}
@@ -880,6 +887,7 @@ func TestRunsOfSpoiltMachinesByChance(t *testing.T) {
 }
 
 func TestRunEvalAndAnswerLeaveTheirArguments(t *testing.T) {
+	t.Parallel()
 	p := roomyOf(meant(t, "(begin (set! x (cons x 'symbol)) (print x) (lambda (k) (f x k)))"))
 	before := wholeOf(p)
 	casesOfSteps(t, func(y impl.Sys, m impl.Machine) {
@@ -905,6 +913,7 @@ func TestRunEvalAndAnswerLeaveTheirArguments(t *testing.T) {
 }
 
 func TestRunEvalAndAnswerTellNewMemory(t *testing.T) {
+	t.Parallel()
 	long, words := 0, 0
 	p := roomyOf(meant(t, "(begin (print 'symbol) (let ((x 'symbol) (y '(a b))) (print y) (cons x (lambda (k) (f x y k)))))"))
 	casesOfSteps(t, func(y impl.Sys, m impl.Machine) {

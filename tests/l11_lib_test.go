@@ -868,6 +868,7 @@ func wantModelLib(t *testing.T, text string, codes *[5]int) {
 
 // A form of each head with all small parts, alone, behind the library form and behind that with what it may hang on.
 func TestLibrariesOfAllSmallForms(t *testing.T) {
+	t.Parallel()
 	heads := []string{"library", "import", "export", "record", "define", "convert", "foo", "begin", "lambda", "quote", "7", "()", "(import)", "'import"}
 	parts := []string{"aa", "v", "pt", "if", "0", "8", "9", "-1", "#t", "()", "(f)", "(f v)", "(f f)", "(v . v)", "(f . x)", "(if v)", "((f))", "'v", "(lambda (x) x)", ". v", "(car)"}
 	var codes [5]int
@@ -915,6 +916,7 @@ func (m maker) library(most int) []string {
 }
 
 func TestLibrariesByChance(t *testing.T) {
+	t.Parallel()
 	m := maker{rand.New(rand.NewSource(11))}
 	var right, spoilt, moved [5]int
 	for i := range 6000 {
@@ -984,6 +986,7 @@ func (m maker) spoilSrc(s *impl.Src) {
 }
 
 func TestSpoiltSourcesByChance(t *testing.T) {
+	t.Parallel()
 	m := maker{rand.New(rand.NewSource(111))}
 	counts := map[bool]int{}
 	for range 20000 {

@@ -544,6 +544,7 @@ func (m maker) tied(count int, back bool) []impl.Src {
 }
 
 func TestTiesByChance(t *testing.T) {
+	t.Parallel()
 	m := maker{rand.New(rand.NewSource(121))}
 	counts := map[bool]int{}
 	for range 1500 {
@@ -627,6 +628,7 @@ func TestMoreThanAWordHasBits(t *testing.T) {
 
 // Many at once are answered soon: no way is gone twice.
 func TestManySources(t *testing.T) {
+	t.Parallel()
 	const count = 20000
 	var l []impl.Src
 	var want []string

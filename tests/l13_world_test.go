@@ -711,6 +711,7 @@ func (s scene) spoilWorld(w *impl.World) {
 }
 
 func TestWorldsByChance(t *testing.T) {
+	t.Parallel()
 	r := rand.New(rand.NewSource(130))
 	counts := map[bool]int{}
 	libs := map[int]int{}
@@ -771,6 +772,7 @@ func (m maker) done(t *testing.T, w impl.World, codes map[int]int) impl.World {
 
 // A world stays right by whatever is done to it.
 func TestWorldsStayRight(t *testing.T) {
+	t.Parallel()
 	m := maker{rand.New(rand.NewSource(132))}
 	codes := map[int]int{}
 	ends := map[int]int{}

@@ -296,6 +296,7 @@ type handed struct {
 }
 
 func TestMakeByChance(t *testing.T) {
+	t.Parallel()
 	r := rand.New(rand.NewSource(140))
 	m := maker{r}
 	codes := map[int]int{}
@@ -707,6 +708,7 @@ type calling struct {
 }
 
 func TestApplyByChance(t *testing.T) {
+	t.Parallel()
 	r := rand.New(rand.NewSource(141))
 	codes := map[string]int{}
 	for i := range 1200 {
@@ -861,6 +863,7 @@ func modelList(h []impl.Cell, v impl.Value) ([]impl.Value, bool) {
 }
 
 func TestListsByChance(t *testing.T) {
+	t.Parallel()
 	r := rand.New(rand.NewSource(142))
 	counts := map[string]int{}
 	type given struct{ Heap []impl.Cell }

@@ -766,6 +766,7 @@ func countAnswers(seen map[string]int, answers []string) {
 
 // Worlds that are spoken to and changed again and again, all of it held against the model.
 func TestSaidByChance(t *testing.T) {
+	t.Parallel()
 	m := maker{rand.New(rand.NewSource(151))}
 	seen, codes := map[string]int{}, map[int]int{}
 	for range 90 {
@@ -788,6 +789,7 @@ func TestSaidByChance(t *testing.T) {
 
 // Worlds of all sorts, whose sessions have names, Links and cells by chance.
 func TestSaidToWorldsByChance(t *testing.T) {
+	t.Parallel()
 	r := rand.New(rand.NewSource(152))
 	seen := map[string]int{}
 	for range 250 {
@@ -851,6 +853,7 @@ func textsOfAllSorts() []string {
 }
 
 func TestSayLeavesWhatIsHandedIn(t *testing.T) {
+	t.Parallel()
 	for _, w := range worldsOfAllSorts(t) {
 		for _, text := range textsOfAllSorts() {
 			given := roomyOf(spoken{w, strings.Clone(text)})

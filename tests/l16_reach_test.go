@@ -511,6 +511,7 @@ func numbers(l ...int) string {
 }
 
 func TestReachOfTasks(t *testing.T) {
+	t.Parallel()
 	for _, mode := range []int{impl.MoEval, impl.MoBack, impl.MoEnd} {
 		for i := 1; i < 6; i++ {
 			wantEachPlaceOfTasks(t, mode, i)
@@ -637,6 +638,7 @@ func TestReachStepByStep(t *testing.T) {
 
 // A row of cells as long as there may be, each hanging on the next.
 func TestReachOfLongRows(t *testing.T) {
+	t.Parallel()
 	for _, n := range []int{0, 1, 2, 17, impl.MaxHeap - 1, impl.MaxHeap} {
 		y := impl.NewSys()
 		y.Units = []impl.Unit{{Home: 0, Prog: program(variable("x"), binding(0))}}
@@ -881,6 +883,7 @@ func (s scene) sparse(w impl.World) impl.World {
 }
 
 func TestReachByChance(t *testing.T) {
+	t.Parallel()
 	r := rand.New(rand.NewSource(161))
 	counts := map[string]int{}
 	for range 500 {
@@ -913,6 +916,7 @@ func (m maker) taken(w impl.World) string {
 
 // Worlds that are spoken to, changed, and whose tasks go on.
 func TestReachOfWorldsThatGoOn(t *testing.T) {
+	t.Parallel()
 	m := maker{rand.New(rand.NewSource(162))}
 	counts, codes, versions := map[string]int{}, map[int]int{}, map[int]int{}
 	for range 60 {
@@ -989,6 +993,7 @@ func wiped(w impl.World) impl.World {
 
 // Whatever is done then, nobody comes to what is not live any more, and nobody sees it when that is another thing.
 func TestNobodyComesToWhatIsNotLive(t *testing.T) {
+	t.Parallel()
 	m := maker{rand.New(rand.NewSource(163))}
 	dead, seen := 0, map[string]int{}
 	for range 80 {
@@ -1031,6 +1036,7 @@ func TestNobodyComesToWhatIsNotLive(t *testing.T) {
 }
 
 func TestReachLeavesWhatIsHandedIn(t *testing.T) {
+	t.Parallel()
 	for _, w := range worldsOfAllSorts(t) {
 		for _, lib := range append(names("aa bb a zz"), "") {
 			given := roomyOf(spoken{w, lib})

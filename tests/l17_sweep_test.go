@@ -252,6 +252,7 @@ func TestSweepOfRecordsOfOldVersions(t *testing.T) {
 
 // What runs in an old version goes on there, behind the sweep, too.
 func TestSweepWhileTasksRun(t *testing.T) {
+	t.Parallel()
 	lib := "(library aa) (export f) (define v '(1)) (define (f) (cons v (begin 1 (cons 2 v))))"
 	start := saidAfter(t, worldOf(t, lib), "(import aa) '(some pairs) (define k '(and 1))")
 	for _, text := range []string{"(cons (f) k)", "(cons k (f))", "(f)", "(begin (f) (car 5))", "((lambda (g) (cons (begin 1 2) (g))) f)", "(begin (print (f)) (set! k (f)) (error k))"} {
@@ -516,6 +517,7 @@ func TestSweepOfWorldsThatAreNotRight(t *testing.T) {
 }
 
 func TestSweepByChance(t *testing.T) {
+	t.Parallel()
 	r := rand.New(rand.NewSource(171))
 	counts := map[string]int{}
 	for range 200 {
@@ -582,6 +584,7 @@ func (m maker) deed(w impl.World) func(w impl.World) (impl.World, answered) {
 
 // A sweep is not seen: one world that is swept now and then, and one that never is, are answered alike.
 func TestASweepIsNotSeen(t *testing.T) {
+	t.Parallel()
 	m := maker{rand.New(rand.NewSource(172))}
 	seen, went, full, versions := map[string]int{}, 0, 0, map[int]int{}
 	for range 50 {

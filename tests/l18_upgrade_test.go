@@ -696,6 +696,7 @@ func (m maker) converter(size int) string {
 
 // Worlds that are changed again and again, each change held against the model.
 func TestConvertersByChance(t *testing.T) {
+	t.Parallel()
 	m := maker{rand.New(rand.NewSource(180))}
 	codes := map[int]int{}
 	carried := 0

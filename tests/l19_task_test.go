@@ -403,6 +403,7 @@ type asSliced struct {
 }
 
 func TestTasksLeaveWhatIsHandedIn(t *testing.T) {
+	t.Parallel()
 	counts := map[bool]int{}
 	texts := append(textsOfAllSorts(), "((lambda (symbol) (cons symbol (f 'other))) 'more)", "v", "(make pt 1 2)")
 	for at, w := range worldsOfAllSorts(t) {

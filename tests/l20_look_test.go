@@ -191,6 +191,7 @@ func TestPortraitOfWorldsThatAreNotRight(t *testing.T) {
 }
 
 func TestPortraitsByChance(t *testing.T) {
+	t.Parallel()
 	r := rand.New(rand.NewSource(201))
 	lines := map[string]int{}
 	for range 400 {
