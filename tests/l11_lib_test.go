@@ -1089,22 +1089,29 @@ func overwrite(s *impl.Src) {
 	}
 }
 
-// Nothing is kept: one library changes nothing of what is told of another.
-func TestParseLibKeepsNothing(t *testing.T) {
-	texts := textsOfLibraries()
+// wantAgain asks all of a row three times in turn: each has the same answer each time.
+func wantAgain[T any](t *testing.T, all []T, ask func(x T) string) {
+	t.Helper()
 	var first []string
 	for range 3 {
-		for i, text := range texts {
-			s, code := impl.ParseLib(text)
-			now := fmt.Sprint(code, s, impl.SrcOk(s))
+		for i, x := range all {
+			now := ask(x)
 			if len(first) <= i {
 				first = append(first, now)
 			}
 			if first[i] != now {
-				t.Fatalf("ParseLib(%.200q) has another answer when it is asked again", text)
+				t.Fatalf("%s has another answer when it is asked again", shown(x))
 			}
 		}
 	}
+}
+
+// Nothing is kept: one library changes nothing of what is told of another.
+func TestParseLibKeepsNothing(t *testing.T) {
+	wantAgain(t, textsOfLibraries(), func(text string) string {
+		s, code := impl.ParseLib(text)
+		return fmt.Sprint(code, s, impl.SrcOk(s))
+	})
 }
 
 // A long text is read as any other.

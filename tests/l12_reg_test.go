@@ -714,21 +714,12 @@ func TestTiesAnswerNewMemory(t *testing.T) {
 
 // Nothing is kept: one list changes nothing of what is told of another.
 func TestTiesKeepNothing(t *testing.T) {
-	all := tiesOfAllSorts(t)
-	var first []string
-	for range 3 {
-		for i, l := range all {
-			order, ok := impl.Order(l)
-			now := fmt.Sprint(order, ok)
-			for _, name := range allNames(l) {
-				now += fmt.Sprint(impl.Needs(l, name), impl.Needed(l, name))
-			}
-			if len(first) <= i {
-				first = append(first, now)
-			}
-			if first[i] != now {
-				t.Fatalf("%s has another answer when it is asked again", shown(l))
-			}
+	wantAgain(t, tiesOfAllSorts(t), func(l []impl.Src) string {
+		order, ok := impl.Order(l)
+		told := fmt.Sprint(order, ok)
+		for _, name := range allNames(l) {
+			told += fmt.Sprint(impl.Needs(l, name), impl.Needed(l, name))
 		}
-	}
+		return told
+	})
 }

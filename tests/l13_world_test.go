@@ -859,18 +859,8 @@ func TestWorldsAreNewMemory(t *testing.T) {
 
 // Nothing is kept: one world changes nothing of what is told of another.
 func TestWorldsKeepNothing(t *testing.T) {
-	all := worldsOfAllSorts(t)
-	var first []string
-	for range 3 {
-		for i, w := range all {
-			z, report := impl.Upgrade(w, aBase)
-			now := fmt.Sprint(impl.WorldOk(w), impl.Current(w, "aa"), impl.Current(w, "dd"), impl.NewWorld(), z, report)
-			if len(first) <= i {
-				first = append(first, now)
-			}
-			if first[i] != now {
-				t.Fatalf("%s has another answer when it is asked again", shown(w))
-			}
-		}
-	}
+	wantAgain(t, worldsOfAllSorts(t), func(w impl.World) string {
+		z, report := impl.Upgrade(w, aBase)
+		return fmt.Sprint(impl.WorldOk(w), impl.Current(w, "aa"), impl.Current(w, "dd"), impl.NewWorld(), z, report)
+	})
 }
